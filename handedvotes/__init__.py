@@ -1,0 +1,1 @@
+"""Handedvotes: votes that are handed on, and what holds of all rolls."""

@@ -1,0 +1,91 @@
+"""What DOC.md lists stands, as written, in the file under which it lists it."""
+
+import inspect
+import unittest
+
+from handedvotes import errors, papers, rolls, rules
+
+FUNCTIONS = {
+    papers: {
+        "need_names": ["thing"], "is_paper": ["names", "thing"], "all_kinds": ["names"],
+        "need_kinds": ["names", "thing"], "raised": ["paper", "name"],
+    },
+    rules: {"units": ["rule"], "all_courses": ["rule"], "winners_of": ["rule", "course"]},
+}
+CLASSES = {
+    errors: ["VoteError", "BadNames", "BadPaper", "BadRoll", "BadRule", "BadCourse", "BadKinds",
+             "BadQuestion", "BadAnswer", "BadNumber", "BadText", "TooMany"],
+    rolls: ["Roll"],
+    rules: ["Rule"],
+}
+METHODS = {
+    rolls.Roll: {
+        "__init__": ["self", "names", "papers"], "total": ["self"],
+        "without": ["self", "paper", "many"], "exchanged": ["self", "paper", "other", "many"],
+    },
+    rules.Rule: {
+        "__init__": ["self", "names", "seats", "quota", "over", "hand", "order"],
+        "with_seats": ["self", "seats"], "with_quota": ["self", "quota", "over"],
+        "with_hand": ["self", "hand"], "with_order": ["self", "order"],
+    },
+}
+OPERATORS = {
+    rolls.Roll: ["__getitem__", "__len__", "__eq__", "__add__", "__mul__"],
+    rules.Rule: ["__eq__"],
+}
+
+
+def parameters(function):
+    return list(inspect.signature(function).parameters)
+
+
+class InterfaceTest(unittest.TestCase):
+    def test_functions(self):
+        for module, functions in FUNCTIONS.items():
+            for name, told in functions.items():
+                function = getattr(module, name)
+                self.assertEqual(function.__module__, module.__name__)
+                self.assertEqual(parameters(function), told)
+
+    def test_classes(self):
+        for module, names in CLASSES.items():
+            for name in names:
+                self.assertEqual(getattr(module, name).__module__, module.__name__)
+
+    def test_methods_stand_in_the_class_itself(self):
+        for made, methods in METHODS.items():
+            for name, told in methods.items():
+                self.assertEqual(parameters(vars(made)[name]), told)
+
+    def test_operators_stand_in_the_class_itself(self):
+        for made, names in OPERATORS.items():
+            for name in names:
+                self.assertIn(name, vars(made))
+
+    def test_numbers_that_may_be_left_out_are_one(self):
+        for name in ("without", "exchanged"):
+            many = inspect.signature(vars(rolls.Roll)[name]).parameters["many"]
+            self.assertEqual(many.default, 1)
+
+    def test_listed_attributes_are_set_on_each_object(self):
+        names = ("a", "b")
+        self.assertTrue({"names", "papers"} <= set(vars(rolls.Roll(names, [(("a",), 1)]))))
+        rule = rules.Rule(names, 1, (1, 2), True, (0, 1), names)
+        self.assertTrue({"names", "seats", "quota", "over", "hand", "order"} <= set(vars(rule)))
+
+
+class ExampleTest(unittest.TestCase):
+    """The lines of the document's example that these modules are enough for."""
+
+    def test_example(self):
+        names = ("a", "b", "c")
+        rule = rules.Rule(names, 1, (1, 2), True, (0, 1), names)
+        roll = rolls.Roll(names, [(("a", "c"), 4), (("b", "a"), 3), (("c", "b"), 3)])
+        more = roll + rolls.Roll(names, [(("c", "b"), 1)])
+        self.assertEqual(more.papers, ((("a", "c"), 4), (("b", "a"), 3), (("c", "b"), 4)))
+        self.assertEqual(len(rules.all_courses(rule)), 15)
+        self.assertEqual(rule.with_quota((1, 3), False).quota, (1, 3))
+
+
+if __name__ == "__main__":
+    unittest.main()
