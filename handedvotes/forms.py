@@ -24,3 +24,12 @@ def is_integer_pair(thing):
 def is_ascending(things):
     """Whether each of some values that can be compared is less than the one behind it."""
     return all([low < high for low, high in zip(things, things[1:])])
+
+
+def is_same(thing, told):
+    """Whether any value equals a told one, which is a text or a tuple of such at any depth."""
+    if isinstance(told, str):
+        return isinstance(thing, str) and thing == told
+    if not isinstance(thing, tuple) or len(thing) != len(told):
+        return False
+    return all([is_same(part, told_part) for part, told_part in zip(thing, told)])

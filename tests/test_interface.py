@@ -3,7 +3,7 @@
 import inspect
 import unittest
 
-from handedvotes import errors, papers, rolls, rules
+from handedvotes import cells, counts, courses, errors, papers, questions, rolls, rules
 
 FUNCTIONS = {
     papers: {
@@ -11,6 +11,19 @@ FUNCTIONS = {
         "need_kinds": ["names", "thing"], "raised": ["paper", "name"],
     },
     rules: {"units": ["rule"], "all_courses": ["rule"], "winners_of": ["rule", "course"]},
+    counts: {"stages": ["rule", "roll"], "course": ["rule", "roll"], "winners": ["rule", "roll"]},
+    cells: {
+        "cell_of": ["rule", "course", "kinds"], "holds": ["rows", "numbers"],
+        "are_bars": ["rows", "thing"], "decided": ["rows"],
+    },
+    questions: {
+        "calls": ["rule", "question", "kinds"], "systems": ["rule", "question", "kinds"],
+        "answer": ["rule", "question", "kinds"], "check": ["rule", "question", "kinds", "thing"],
+        "is_never": ["rule", "question", "kinds"],
+    },
+    courses: {
+        "shown": ["rule", "kinds"], "possible_winners": ["rule", "kinds"], "can_win": ["rule", "kinds"],
+    },
 }
 CLASSES = {
     errors: ["VoteError", "BadNames", "BadPaper", "BadRoll", "BadRule", "BadCourse", "BadKinds",
@@ -83,8 +96,16 @@ class ExampleTest(unittest.TestCase):
         roll = rolls.Roll(names, [(("a", "c"), 4), (("b", "a"), 3), (("c", "b"), 3)])
         more = roll + rolls.Roll(names, [(("c", "b"), 1)])
         self.assertEqual(more.papers, ((("a", "c"), 4), (("b", "a"), 3), (("c", "b"), 4)))
+        self.assertEqual(counts.stages(rule, roll), (
+            ((("a", 4), ("b", 3), ("c", 3)), ("out", "c")), ((("a", 4), ("b", 6)), ("in", "b"))))
+        self.assertEqual(counts.winners(rule, roll), ("b",))
+        self.assertEqual(counts.winners(rule, more), ("a",))
+        kinds = (("a", "c"), ("b", "a"), ("c", "b"))
+        self.assertEqual(questions.answer(rule, ("stay", ("c", "b")), kinds)[0], "rolls")
+        third = rule.with_quota((1, 3), False)
+        self.assertIs(questions.is_never(third, ("stay", ("c", "b")), kinds), True)
+        self.assertEqual(cells.decided((((1, -1), True), ((-1, 1), False))), ("bars", ((0, 1), (1, 1))))
         self.assertEqual(len(rules.all_courses(rule)), 15)
-        self.assertEqual(rule.with_quota((1, 3), False).quota, (1, 3))
 
 
 if __name__ == "__main__":
