@@ -10,7 +10,7 @@ MOST_KINDS = 15
 
 def shown(rule, kinds):
     """For each course a roll that has it, or bars."""
-    _need_few_kinds(rule, kinds)
+    need_few_kinds(rule, kinds)
     return tuple([_shown_course(rule, course, kinds) for course in all_courses(rule)])
 
 
@@ -29,7 +29,8 @@ def can_win(rule, kinds):
     return tuple([name for name in rule.names if any([name in lot for lot in lots])])
 
 
-def _need_few_kinds(rule, kinds):
+def need_few_kinds(rule, kinds):
+    """Refuses what is no range, and a range of too many kinds."""
     need_kinds(rule.names, kinds)
     if len(kinds) > MOST_KINDS:
         raise TooMany(MOST_KINDS)

@@ -10,9 +10,16 @@ _MOST_LETTERS = 8
 
 def need_names(thing):
     """The value itself, if it is names."""
-    if not _are_names(thing):
+    if not are_names(thing):
         raise BadNames(thing)
     return thing
+
+
+def are_names(thing):
+    """Whether any value is names."""
+    if not isinstance(thing, tuple) or not _FEWEST_NAMES <= len(thing) <= MOST_NAMES:
+        return False
+    return all([_is_word(name) for name in thing]) and is_ascending(thing)
 
 
 def is_paper(names, thing):
@@ -57,12 +64,6 @@ def _is_word(thing):
     if not isinstance(thing, str) or not 1 <= len(thing) <= _MOST_LETTERS:
         return False
     return all(["a" <= letter <= "z" for letter in thing])
-
-
-def _are_names(thing):
-    if not isinstance(thing, tuple) or not _FEWEST_NAMES <= len(thing) <= MOST_NAMES:
-        return False
-    return all([_is_word(name) for name in thing]) and is_ascending(thing)
 
 
 def _is_range(names, thing):

@@ -62,6 +62,14 @@ def plan_of(rule, question, kinds):
     return _halves_plan(rule, kinds)
 
 
+def is_better(paper, lot, other):
+    """Whether a lot is better than another one for those who write a paper."""
+    for name in paper:
+        if (name in lot) != (name in other):
+            return name in lot
+    return False
+
+
 def _course_plan(rule, course, kinds):
     return Plan(((course,),), [{course: cell_at(rule, course, kinds)}], [_some_of(kinds)], [kinds])
 
@@ -79,7 +87,7 @@ def _stay_plan(rule, paper, kinds):
     coming = kinds + (paper,)
     staying = kinds + (NO_PAPER,)
     lots = _lots(rule)
-    calls = [(one, two) for one in lots for two in lots if _is_better(paper, lots[two], lots[one])]
+    calls = [(one, two) for one in lots for two in lots if is_better(paper, lots[two], lots[one])]
     cells = [_cells(rule, coming), _cells(rule, staying)]
     return Plan(tuple(calls), cells, [_some_of(staying)], [coming, staying])
 
@@ -114,14 +122,6 @@ def _cells(rule, papers):
 def _some_of(papers):
     """The strict row that holds if a paper comes to the roll."""
     return (tuple([0 if paper == NO_PAPER else 1 for paper in papers]), True)
-
-
-def _is_better(paper, lot, other):
-    """Whether a lot is better than another one for those who write a paper."""
-    for name in paper:
-        if (name in lot) != (name in other):
-            return name in lot
-    return False
 
 
 def _places_of(papers):

@@ -50,13 +50,18 @@ def is_never(rule, question, kinds):
     return answer(rule, question, kinds)[0] == "never"
 
 
-def need_plan(rule, question, kinds):
-    """The plan of a question over a range."""
+def need_question(rule, question, kinds):
+    """Refuses what is no question of the rule, what is no range, and too many names."""
     if not _is_question(rule, question):
         raise BadQuestion(question)
     need_kinds(rule.names, kinds)
     if question[0] != "course" and len(rule.names) > MOST_NAMES_ASKED:
         raise TooMany(MOST_NAMES_ASKED)
+
+
+def need_plan(rule, question, kinds):
+    """The plan of a question over a range."""
+    need_question(rule, question, kinds)
     return plan_of(rule, question, kinds)
 
 

@@ -4,6 +4,7 @@ from handedvotes.errors import BadCourse, BadRule
 from handedvotes.forms import is_integer_pair, is_pair, is_within
 from handedvotes.papers import is_paper, need_names
 
+FIELDS = ("seats", "quota", "over", "hand", "order")
 _MOST_PARTS = 100
 
 
@@ -12,16 +13,9 @@ class Rule:
 
     def __init__(self, names, seats, quota, over, hand, order):
         need_names(names)
-        if not is_within(seats, 1, len(names) - 1):
-            raise BadRule("seats")
-        if not _is_quota(quota):
-            raise BadRule("quota")
-        if over is not True and over is not False:
-            raise BadRule("over")
-        if not _is_hand(hand):
-            raise BadRule("hand")
-        if not is_paper(names, order) or len(order) != len(names):
-            raise BadRule("order")
+        for place, thing in zip(FIELDS, (seats, quota, over, hand, order)):
+            if not is_field(names, place, thing):
+                raise BadRule(place)
         self.names = names
         self.seats = seats
         self.quota = quota
@@ -50,6 +44,19 @@ class Rule:
     def with_order(self, order):
         """The rule with other favored names."""
         return Rule(self.names, self.seats, self.quota, self.over, self.hand, order)
+
+
+def is_field(names, place, thing):
+    """Whether any value can stand in the told field of a rule on the names."""
+    if place == "seats":
+        return is_within(thing, 1, len(names) - 1)
+    if place == "quota":
+        return is_integer_pair(thing) and 0 < thing[0] < thing[1] <= _MOST_PARTS
+    if place == "over":
+        return thing is True or thing is False
+    if place == "hand":
+        return is_integer_pair(thing) and 0 <= thing[0] <= thing[1] and 1 <= thing[1] <= _MOST_PARTS
+    return is_paper(names, thing) and len(thing) == len(names)
 
 
 def units(rule):
@@ -111,14 +118,6 @@ def _courses_from(going, seats):
             ways = _courses_from(without_name(going, name), left)
             courses.extend([((word, name),) + way for way in ways])
     return courses
-
-
-def _is_quota(thing):
-    return is_integer_pair(thing) and 0 < thing[0] < thing[1] <= _MOST_PARTS
-
-
-def _is_hand(thing):
-    return is_integer_pair(thing) and 0 <= thing[0] <= thing[1] and 1 <= thing[1] <= _MOST_PARTS
 
 
 def _is_step(going, thing):

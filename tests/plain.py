@@ -293,3 +293,74 @@ def is_shown(rule, question, kinds, called, rolls):
         return False
     counted = rolls * 2 if question[0] == "part" else rolls
     return tuple(course(one, papers) for one, papers in zip(rules_of(rule, question), counted)) == called
+
+
+def fewest(rule, question, kinds, most):
+    """The least sum of numbers, at most so many, whose rolls show what a question asks, or None.
+
+    Each unknown brings one paper to the roll that is told first (of "halves", to both together),
+    so this sum is how many papers there are in it.
+    """
+    brought = brought_by(question, kinds)
+    rules = rules_of(rule, question)
+    told = set(calls(rule, question))
+    known = {}
+    for numbers in sorted(small_numbers(len(brought[0]), most), key=sum):
+        rolls = papers_brought(brought, numbers)
+        if all(rolls):
+            counted = rolls * 2 if question[0] == "part" else rolls
+            if tuple(course_once(known, one, papers) for one, papers in zip(rules, counted)) in told:
+                return sum(numbers)
+    return None
+
+
+def course_once(known, rule, papers):
+    """The course of a roll; known is a dict that keeps what was counted."""
+    key = (rule.seats, rule.quota, rule.over, rule.hand, rule.order, papers)
+    if key not in known:
+        known[key] = course(rule, papers)
+    return known[key]
+
+
+def with_papers(papers, coming, going=()):
+    """Papers with some more and some less, each of these a list of papers; None if too many go."""
+    table = dict(papers)
+    for paper in going:
+        table[paper] = table.get(paper, 0) - 1
+        if table[paper] < 0:
+            return None
+    for paper in coming:
+        table[paper] = table.get(paper, 0) + 1
+    return tuple(sorted((paper, many) for paper, many in table.items() if many))
+
+
+def some_of(papers, many):
+    return itertools.combinations_with_replacement(papers, many)
+
+
+def margin(rule, papers, kinds, most):
+    lot = winners(rule, papers)
+    known = {}
+    for many in range(1, most + 1):
+        for going in some_of([paper for paper, _ in papers], many):
+            for coming in some_of(kinds, many):
+                changed = with_papers(papers, coming, going)
+                if changed is not None and lot_of(rule, course_once(known, rule, changed)) != lot:
+                    return many
+    return None
+
+
+def lots_with(rule, papers, kinds, many):
+    """The lots of winners when so many papers of a range come, whichever they are."""
+    return {winners(rule, with_papers(papers, coming)) for coming in some_of(kinds, many)}
+
+
+def added(rule, papers, name, kinds, most):
+    return next((many for many in range(most + 1)
+                 if any(name in lot for lot in lots_with(rule, papers, kinds, many))), None)
+
+
+def missing(rule, papers, kinds, many):
+    lots = lots_with(rule, papers, kinds, many)
+    return (tuple(name for name in rule.names if any(name in lot for lot in lots)),
+            tuple(name for name in rule.names if all(name in lot for lot in lots)))

@@ -3,7 +3,8 @@
 import inspect
 import unittest
 
-from handedvotes import cells, counts, courses, errors, papers, questions, rolls, rules
+from handedvotes import (
+    cells, counts, courses, errors, margins, papers, questions, rolls, rules, small, tally, texts)
 
 FUNCTIONS = {
     papers: {
@@ -24,12 +25,22 @@ FUNCTIONS = {
     courses: {
         "shown": ["rule", "kinds"], "possible_winners": ["rule", "kinds"], "can_win": ["rule", "kinds"],
     },
+    small: {"smallest": ["rule", "question", "kinds", "most"]},
+    margins: {
+        "margin": ["rule", "roll", "kinds", "most"], "exchanges": ["rule", "roll", "kinds", "most"],
+        "added": ["rule", "roll", "name", "kinds", "most"], "missing": ["rule", "roll", "kinds", "many"],
+    },
+    tally: {"tried": ["tally", "function"]},
+    texts: {
+        "roll_text": ["roll"], "read_roll": ["text"], "rule_text": ["rule"], "read_rule": ["text"],
+    },
 }
 CLASSES = {
     errors: ["VoteError", "BadNames", "BadPaper", "BadRoll", "BadRule", "BadCourse", "BadKinds",
              "BadQuestion", "BadAnswer", "BadNumber", "BadText", "TooMany"],
     rolls: ["Roll"],
     rules: ["Rule"],
+    tally: ["Tally"],
 }
 METHODS = {
     rolls.Roll: {
@@ -41,10 +52,16 @@ METHODS = {
         "with_seats": ["self", "seats"], "with_quota": ["self", "quota", "over"],
         "with_hand": ["self", "hand"], "with_order": ["self", "order"],
     },
+    tally.Tally: {
+        "__init__": ["self", "rule", "roll"], "steps": ["self"], "is_over": ["self"], "piles": ["self"],
+        "winners": ["self"], "step": ["self"], "add": ["self", "paper", "many"], "undo": ["self", "many"],
+        "trial": ["self"],
+    },
 }
 OPERATORS = {
     rolls.Roll: ["__getitem__", "__len__", "__eq__", "__add__", "__mul__"],
     rules.Rule: ["__eq__"],
+    tally.Tally: ["__len__", "__eq__", "roll"],
 }
 
 
@@ -76,19 +93,35 @@ class InterfaceTest(unittest.TestCase):
                 self.assertIn(name, vars(made))
 
     def test_numbers_that_may_be_left_out_are_one(self):
-        for name in ("without", "exchanged"):
-            many = inspect.signature(vars(rolls.Roll)[name]).parameters["many"]
+        for made, name in ((rolls.Roll, "without"), (rolls.Roll, "exchanged"), (tally.Tally, "add"),
+                           (tally.Tally, "undo")):
+            many = inspect.signature(vars(made)[name]).parameters["many"]
             self.assertEqual(many.default, 1)
+
+    def test_no_other_defaults(self):
+        functions = [getattr(module, name) for module, table in FUNCTIONS.items() for name in table]
+        functions += [vars(made)[name] for made, table in METHODS.items() for name in table]
+        left_out = [(function.__qualname__, one.name) for function in functions
+                    for one in inspect.signature(function).parameters.values() if one.default is not one.empty]
+        self.assertEqual(sorted(left_out), [
+            ("Roll.exchanged", "many"), ("Roll.without", "many"), ("Tally.add", "many"), ("Tally.undo", "many")])
 
     def test_listed_attributes_are_set_on_each_object(self):
         names = ("a", "b")
         self.assertTrue({"names", "papers"} <= set(vars(rolls.Roll(names, [(("a",), 1)]))))
         rule = rules.Rule(names, 1, (1, 2), True, (0, 1), names)
         self.assertTrue({"names", "seats", "quota", "over", "hand", "order"} <= set(vars(rule)))
+        self.assertIsInstance(vars(tally.Tally)["roll"], property)
+
+    def test_errors_of_the_interface(self):
+        for name in CLASSES[errors]:
+            base = OverflowError if name == "TooMany" else ValueError if name == "VoteError" else errors.VoteError
+            self.assertEqual(getattr(errors, name).__bases__, (base,))
+        self.assertEqual(papers.MOST_NAMES, 4)
 
 
 class ExampleTest(unittest.TestCase):
-    """The lines of the document's example that these modules are enough for."""
+    """The lines of the document's example."""
 
     def test_example(self):
         names = ("a", "b", "c")
@@ -106,6 +139,8 @@ class ExampleTest(unittest.TestCase):
         self.assertIs(questions.is_never(third, ("stay", ("c", "b")), kinds), True)
         self.assertEqual(cells.decided((((1, -1), True), ((-1, 1), False))), ("bars", ((0, 1), (1, 1))))
         self.assertEqual(len(rules.all_courses(rule)), 15)
+        self.assertEqual(margins.margin(rule, roll, kinds, 3), 1)
+        self.assertEqual(texts.roll_text(roll), "names a b c\n4 a>c\n3 b>a\n3 c>b")
 
 
 if __name__ == "__main__":

@@ -7,6 +7,13 @@ import unittest
 
 PACKAGE = pathlib.Path(__file__).resolve().parent.parent / "handedvotes"
 
+BUILTINS = {
+    "len", "range", "enumerate", "zip", "min", "max", "sum", "sorted", "int", "str", "bool", "list", "tuple", "dict",
+    "isinstance", "any", "all", "set", "property", "ValueError", "OverflowError", "TypeError", "NotImplemented"}
+METHODS = {"append", "extend", "get", "items", "index", "join", "partition", "split"}
+WORDS = {"register", "mro", "elements", "open", "input", "law", "type", "vars", "id", "dir", "eval", "exec", "super",
+         "hash", "next", "format", "args", "sort", "update", "hex", "encode", "decode"}
+
 
 def sources():
     return {path.name: path.read_text(encoding="utf-8") for path in PACKAGE.glob("*.py")}
@@ -59,6 +66,40 @@ class LanguageTest(unittest.TestCase):
                 self.assertNotIsInstance(node, barred, name)
                 if isinstance(node, ast.Constant):
                     self.assertNotIsInstance(node.value, float, name)
+
+    def test_builtins_that_are_used(self):
+        for name, source in sources().items():
+            tree = ast.parse(source)
+            used = {node.id for node in ast.walk(tree) if isinstance(node, ast.Name) and hasattr(builtins, node.id)}
+            self.assertLessEqual(used, BUILTINS, name)
+
+    def test_methods_of_builtin_values_that_are_used(self):
+        own = {node.name for source in sources().values() for node in ast.walk(ast.parse(source))
+               if isinstance(node, ast.FunctionDef)}
+        for name, source in sources().items():
+            called = {node.func.attr for node in ast.walk(ast.parse(source))
+                      if isinstance(node, ast.Call) and isinstance(node.func, ast.Attribute)}
+            self.assertLessEqual(called - own, METHODS, name)
+
+    def test_words_that_do_not_occur(self):
+        for name, source in sources().items():
+            for node in ast.walk(ast.parse(source)):
+                word = getattr(node, "id", getattr(node, "attr", getattr(node, "name", "")))
+                self.assertNotIn(word, WORDS, name)
+                if isinstance(node, ast.Constant) and isinstance(node.value, str):
+                    self.assertNotIn("%", node.value, name)
+
+    def test_no_dict_or_list_of_a_module_is_changed_or_passed_on(self):
+        for name, source in sources().items():
+            tree = ast.parse(source)
+            tables = {node.targets[0].id for node in tree.body
+                      if isinstance(node, ast.Assign) and isinstance(node.value, (ast.Dict, ast.List))}
+            read = [node.value.id for node in ast.walk(tree)
+                    if isinstance(node, (ast.Attribute, ast.Subscript)) and isinstance(node.value, ast.Name)
+                    and node.value.id in tables]
+            named = [node.id for node in ast.walk(tree) if isinstance(node, ast.Name) and node.id in tables
+                     and isinstance(node.ctx, ast.Load)]
+            self.assertEqual(sorted(read), sorted(named), name)
 
     def test_sizes(self):
         for name, source in sources().items():
